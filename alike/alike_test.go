@@ -1,0 +1,51 @@
+package alike_test
+
+import (
+	"testing"
+
+	"paternoster/alike"
+	"paternoster/api"
+)
+
+func TestTrees(t *testing.T) {
+	tree := func() api.Node {
+		return api.Node{Kind: 9, Tag: "T", Attrs: []api.Attr{{Name: "a"}}, Children: []api.Node{{Text: "x"}}}
+	}
+	a := tree()
+	if !alike.Trees(a, alike.CopyTree(a)) || !alike.Trees(api.Node{}, api.Node{Attrs: []api.Attr{}, Children: []api.Node{}}) {
+		t.Error("equal trees")
+	}
+	for i, change := range []func(n *api.Node){
+		func(n *api.Node) { n.Kind++ }, func(n *api.Node) { n.Tag = "" }, func(n *api.Node) { n.Key = "k" }, func(n *api.Node) { n.Text = "t" },
+		func(n *api.Node) { n.Attrs[0].Value = "v" }, func(n *api.Node) { n.Attrs = nil }, func(n *api.Node) { n.Children[0].Text = "" }, func(n *api.Node) { n.Children = nil },
+	} {
+		b := alike.CopyTree(a)
+		change(&b)
+		if alike.Trees(a, b) || !alike.Trees(a, tree()) {
+			t.Error("another tree", i)
+		}
+	}
+}
+
+func TestConfigs(t *testing.T) {
+	config := func() api.Config {
+		part := api.Part{Kind: 7, Slots: []api.Slot{{Name: "s"}}, Parts: []api.Part{{Text: "x"}}}
+		return api.Config{View: 1, Kinds: []api.Kind{{Template: part, Base: 3}}}
+	}
+	a := config()
+	for i, change := range []func(c *api.Config){
+		func(c *api.Config) { c.View++ }, func(c *api.Config) { c.Over++ }, func(c *api.Config) { c.Least++ }, func(c *api.Config) { c.Cap++ }, func(c *api.Config) { c.Arena++ }, func(c *api.Config) { c.Flaw++ },
+		func(c *api.Config) { c.Kinds = nil }, func(c *api.Config) { c.Kinds[0].Base++ }, func(c *api.Config) { c.Kinds[0].Sticky = true }, func(c *api.Config) { c.Kinds[0].Pool++ },
+		func(c *api.Config) { c.Kinds[0].Template.Kind++ }, func(c *api.Config) { c.Kinds[0].Template.Tag = "t" }, func(c *api.Config) { c.Kinds[0].Template.Key = "k" }, func(c *api.Config) { c.Kinds[0].Template.Text = "t" },
+		func(c *api.Config) { c.Kinds[0].Template.Slots[0].From++ }, func(c *api.Config) { c.Kinds[0].Template.Parts[0].Text = "" }, func(c *api.Config) { c.Kinds[0].Template.Parts = nil },
+	} {
+		b := alike.CopyConfig(a)
+		if !alike.Configs(a, b) {
+			t.Error("equal configurations")
+		}
+		change(&b)
+		if alike.Configs(a, b) || !alike.Configs(a, config()) {
+			t.Error("another configuration", i)
+		}
+	}
+}
