@@ -1,11 +1,12 @@
-// Package alike tells whether trees and templates are equal, valid or not, and
-// copies them; layers that accept all values need it.
+// Package alike tells whether trees, templates and configurations are equal, valid
+// or not, and copies them and lists; layers that accept all values need it.
 package alike
 
 import (
 	"slices"
 
 	"paternoster/api"
+	"paternoster/lists"
 )
 
 // Trees reports whether all fields of two trees are equal.
@@ -64,5 +65,14 @@ func Copy[T any](l []T) []T {
 	}
 	out := make([]T, len(l))
 	copy(out, l)
+	return out
+}
+
+// CopyList returns an equal list of entries in new memory.
+func CopyList(l lists.List) lists.List {
+	out := lists.List{Entries: Copy(l.Entries)}
+	for i := range out.Entries {
+		out.Entries[i].Item.Marks = Copy(out.Entries[i].Item.Marks)
+	}
 	return out
 }

@@ -5,6 +5,7 @@ import (
 
 	"paternoster/alike"
 	"paternoster/api"
+	"paternoster/lists"
 )
 
 func TestTrees(t *testing.T) {
@@ -47,5 +48,17 @@ func TestConfigs(t *testing.T) {
 		if alike.Configs(a, b) || !alike.Configs(a, config()) {
 			t.Error("another configuration", i)
 		}
+	}
+}
+
+func TestCopyList(t *testing.T) {
+	a := lists.List{Entries: []lists.Entry{{Item: api.Item{Key: 1, Marks: []string{"m"}}, Size: 3}, {Known: true}}}
+	b := alike.CopyList(a)
+	if !lists.Same(a, b) {
+		t.Error("equal lists")
+	}
+	b.Entries[0].Item.Marks[0], b.Entries[1].Size = "n", 9
+	if a.Entries[0].Item.Marks[0] != "m" || a.Entries[1].Size != 0 {
+		t.Error("shared memory")
 	}
 }
