@@ -1,5 +1,6 @@
-// Package plain contains what the texts of several layers consist of: names,
-// texts and decimal numbers (shared/DOC.md, 'Names and strings').
+// Package plain contains what several layers need alike: the names, texts and
+// decimal numbers of which texts consist (shared/DOC.md, 'Names and strings'), and
+// sums that never go round.
 package plain
 
 import (
@@ -73,4 +74,13 @@ func Int(s string) (n int64, ok bool) {
 	}
 	u, ok := Uint(s, math.MaxInt64)
 	return int64(u), ok
+}
+
+// Sum returns the sum of two numbers, or the greatest or least number if it is
+// beyond these.
+func Sum(a, b int64) int64 {
+	if b >= 0 {
+		return min(a, math.MaxInt64-b) + b
+	}
+	return max(a, math.MinInt64-b) + b
 }

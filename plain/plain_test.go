@@ -47,3 +47,12 @@ func TestNumbers(t *testing.T) {
 		}
 	}
 }
+
+func TestSum(t *testing.T) {
+	const least, most = math.MinInt64, math.MaxInt64
+	for _, x := range [][3]int64{{3, -5, -2}, {most, 1, most}, {1, most, most}, {least, -1, least}, {-1, least, least}, {least, most, -1}, {most, least, -1}, {most - 1, 1, most}, {least + 1, -1, least}} {
+		if got := plain.Sum(x[0], x[1]); got != x[2] {
+			t.Errorf("Sum(%d, %d): %d", x[0], x[1], got)
+		}
+	}
+}
