@@ -1,5 +1,6 @@
 // Package alike tells whether trees, templates and configurations are equal, valid
-// or not, and copies them and lists; layers that accept all values need it.
+// or not, and copies them, lists and events; layers that accept all values need
+// it.
 package alike
 
 import (
@@ -73,6 +74,23 @@ func CopyList(l lists.List) lists.List {
 	out := lists.List{Entries: Copy(l.Entries)}
 	for i := range out.Entries {
 		out.Entries[i].Item.Marks = Copy(out.Entries[i].Item.Marks)
+	}
+	return out
+}
+
+// CopyEvents returns equal events in new memory.
+func CopyEvents(l []api.Event) []api.Event {
+	out := Copy(l)
+	for i := range out {
+		out[i].Heights = Copy(out[i].Heights)
+		out[i].Notices = Copy(out[i].Notices)
+		for k := range out[i].Notices {
+			n := &out[i].Notices[k]
+			n.Items = Copy(n.Items)
+			for j := range n.Items {
+				n.Items[j].Marks = Copy(n.Items[j].Marks)
+			}
+		}
 	}
 	return out
 }

@@ -62,3 +62,15 @@ func TestCopyList(t *testing.T) {
 		t.Error("shared memory")
 	}
 }
+
+func TestCopyEvents(t *testing.T) {
+	a := []api.Event{{Kind: 5, Notices: []api.Notice{{Items: []api.Item{{Marks: []string{"m"}}}}}, Heights: []api.Height{{Key: 1}}}}
+	b := alike.CopyEvents(a)
+	if b[0].Kind != 5 || b[0].Notices[0].Items[0].Marks[0] != "m" || b[0].Heights[0].Key != 1 {
+		t.Error("equal events")
+	}
+	b[0].Notices[0].Items[0].Marks[0], b[0].Heights[0].Key, b[0].Kind = "n", 2, 1
+	if a[0].Notices[0].Items[0].Marks[0] != "m" || a[0].Heights[0].Key != 1 || a[0].Kind != 5 {
+		t.Error("shared memory")
+	}
+}
