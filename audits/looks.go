@@ -6,11 +6,9 @@ import (
 	"paternoster/api"
 	"paternoster/engines"
 	"paternoster/heads"
-	"paternoster/holds"
 	"paternoster/lists"
 	"paternoster/models"
 	"paternoster/nodes"
-	"paternoster/rebinds"
 	"paternoster/renders"
 	"paternoster/snapshots"
 	"paternoster/windows"
@@ -22,19 +20,29 @@ type looks struct {
 	config api.Config
 	rules  lists.Rules
 	list   lists.List
-	rows   []rebinds.Row
+	rows   []row
+}
+
+// row is a row that is attached.
+type row struct {
+	key  uint64
+	root api.Handle
 }
 
 func look(g *engines.Engine) *looks {
 	c := g.Config()
-	return &looks{engine: g, config: c, rules: lists.Rules{Kinds: c.Kinds, Cap: c.Cap}, list: g.List(), rows: g.Rows()}
+	l := &looks{engine: g, config: c, rules: lists.Rules{Kinds: c.Kinds, Cap: c.Cap}, list: g.List()}
+	for _, r := range g.Rows() {
+		l.rows = append(l.rows, row{key: r.Key, root: r.Root})
+	}
+	return l
 }
 
 // all reports whether something is so for all attached rows; at is the index of the
 // entry of a row, -1 if there is none.
-func (l *looks) all(holds func(r rebinds.Row, at int) bool) bool {
-	return !slices.ContainsFunc(l.rows, func(r rebinds.Row) bool {
-		at, found := lists.Find(l.list, r.Key)
+func (l *looks) all(holds func(r row, at int) bool) bool {
+	return !slices.ContainsFunc(l.rows, func(r row) bool {
+		at, found := lists.Find(l.list, r.key)
 		if !found {
 			at = -1
 		}
@@ -43,29 +51,29 @@ func (l *looks) all(holds func(r rebinds.Row, at int) bool) bool {
 }
 
 func (l *looks) known() bool {
-	return l.all(func(_ rebinds.Row, at int) bool { return at >= 0 && l.list.Entries[at].Known })
+	return l.all(func(_ row, at int) bool { return at >= 0 && l.list.Entries[at].Known })
 }
 
 func (l *looks) attached() bool {
 	g := l.engine
 	attached, e := windows.Attached(l.rules, l.list, g.Offset(), g.View(), l.config.Over)
-	return e == api.OK && slices.EqualFunc(attached, l.rows, func(i int, r rebinds.Row) bool { return l.list.Entries[i].Item.Key == r.Key })
+	return e == api.OK && slices.EqualFunc(attached, l.rows, func(i int, r row) bool { return l.list.Entries[i].Item.Key == r.key })
 }
 
 func (l *looks) tops() bool {
 	tops, _ := renders.Tops(l.list)
-	return l.all(func(r rebinds.Row, at int) bool {
-		v, e := l.engine.Dom().Look(r.Root)
+	return l.all(func(r row, at int) bool {
+		v, e := l.engine.Dom().Look(r.root)
 		return e == api.OK && at >= 0 && v.Size == l.list.Entries[at].Size && (v.Pinned || v.Top == tops[at])
 	})
 }
 
 func (l *looks) trees() bool {
-	return l.all(func(r rebinds.Row, at int) bool {
+	return l.all(func(r row, at int) bool {
 		if at < 0 {
 			return false
 		}
-		tree, e := l.engine.Dom().Tree(r.Root)
+		tree, e := l.engine.Dom().Tree(r.root)
 		want, f := lists.Tree(l.rules, lists.List{Entries: l.list.Entries[at : at+1]}, 0)
 		return e == api.OK && f == api.OK && nodes.Same(tree, nodes.Strip(want))
 	})
@@ -81,7 +89,7 @@ func (l *looks) roots() bool {
 	}
 	slices.SortFunc(want, func(a, b api.Handle) int { return int(a.Index) - int(b.Index) })
 	v, _ := g.Dom().Look(g.Root())
-	return slices.Equal(g.Dom().Roots(), want) && slices.EqualFunc(v.Children, l.rows, func(h api.Handle, r rebinds.Row) bool { return h == r.Root })
+	return slices.Equal(g.Dom().Roots(), want) && slices.EqualFunc(v.Children, l.rows, func(h api.Handle, r row) bool { return h == r.root })
 }
 
 func (l *looks) pools() bool {
@@ -111,13 +119,13 @@ func (l *looks) head() bool {
 	}
 	place, _ := heads.Place(l.rules, l.list, s)
 	pinned := 0
-	right := l.all(func(r rebinds.Row, _ int) bool {
-		v, e := l.engine.Dom().Look(r.Root)
+	right := l.all(func(r row, _ int) bool {
+		v, e := l.engine.Dom().Look(r.root)
 		if e != api.OK || !v.Pinned {
 			return e == api.OK
 		}
 		pinned++
-		return found && l.list.Entries[at].Item.Key == r.Key && v.Top == s+place
+		return found && l.list.Entries[at].Item.Key == r.key && v.Top == s+place
 	})
 	return right && (pinned == 1 || !found && pinned == 0)
 }
@@ -140,10 +148,22 @@ func (b *both) counts() bool {
 
 func (b *both) live() bool { return b.engine.Dom().Counters().Live == b.model.Counts().Live }
 
-func (b *both) rows() bool { return held(b.engine.Rows(), b.model.Holds().Rows) }
+func (b *both) rows() bool {
+	rows, held := b.engine.Rows(), b.model.Holds().Rows
+	return equal(len(rows), len(held), func(i int) bool {
+		r, h := rows[i], held[i]
+		return r.Key == h.Key && r.Type == h.Type && nodes.Same(r.Tree, h.Tree)
+	})
+}
 
 func (b *both) pools() bool {
-	return slices.EqualFunc(b.engine.Pools().Rows, b.model.Holds().Pools, held)
+	rows, held := b.engine.Pools().Rows, b.model.Holds().Pools
+	return equal(len(rows), len(held), func(kind int) bool {
+		return equal(len(rows[kind]), len(held[kind]), func(i int) bool {
+			r, h := rows[kind][i], held[kind][i]
+			return r.Key == h.Key && r.Type == h.Type && nodes.Same(r.Tree, h.Tree)
+		})
+	})
 }
 
 func (b *both) slice() bool {
@@ -151,9 +171,16 @@ func (b *both) slice() bool {
 	return e == api.OK && renders.Same(seen, b.model.Slice())
 }
 
-// held reports whether rows of an engine are those of a model.
-func held(l []rebinds.Row, m []holds.Held) bool {
-	return slices.EqualFunc(l, m, func(r rebinds.Row, h holds.Held) bool {
-		return r.Key == h.Key && r.Type == h.Type && nodes.Same(r.Tree, h.Tree)
-	})
+// equal reports whether two lists are as long as each other, and the same at all
+// indices.
+func equal(n, m int, same func(i int) bool) bool {
+	if n != m {
+		return false
+	}
+	for i := range n {
+		if !same(i) {
+			return false
+		}
+	}
+	return true
 }

@@ -187,6 +187,8 @@ func TestP34_8Settle(t *testing.T) {
 		expect(t, "Settle", all(l.Settle(f, x.anchor, x.delta, x.measure)), all(0, 0, x.e))
 		expect(t, "what was refused", written(l), before)
 	}
+	expect(t, "Settle with what panics", all(l.Settle(f, 1, 0, func(int) int64 { panic("stop") })), all(0, 0, api.ErrArg))
+	expect(t, "what was refused", written(l), before)
 	expect(t, "Settle of no rows", all(layouts.New().Settle(f, -1, 0, same(1))), all(0, 0, 0))
 }
 
