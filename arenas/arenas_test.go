@@ -46,6 +46,7 @@ func TestP15_1NewTake(t *testing.T) {
 			t.Fatal(e)
 		}
 	}
+	expect(t, "MaxSlots", arenas.MaxSlots, 1048576)
 	expect(t, "Take beyond the limit", all(big.Take(struct{}{})), all(h(0, 0), api.ErrLimit))
 	big.Free(h(7, 1))
 	expect(t, "Take of a free slot", all(big.Take(struct{}{})), all(h(7, 2), 0))

@@ -152,6 +152,12 @@ func TestP19_3Apply(t *testing.T) {
 	expect(t, "too many children at the end", all(diffs.Apply(a, slices.Repeat([]diffs.Step{mount}, 14))), all(api.Node{}, api.ErrTree))
 	got, e := diffs.Apply(a, append(slices.Repeat([]diffs.Step{mount}, 14), free))
 	expect(t, "too many children on the way", all(len(got.Children), e), all(16, 0))
+	_, e = diffs.Apply(a, slices.Repeat([]diffs.Step{{What: diffs.Move}}, api.MaxList))
+	expect(t, "as many steps as there may be", e, api.OK)
+	for _, tree := range []api.Node{{Attrs: make([]api.Attr, 1)}, {Children: make([]api.Node, 1)}, {Key: "k"}, {Tag: "t"}} {
+		_, e := diffs.Apply(a, []diffs.Step{{What: diffs.Move, Tree: tree}})
+		expect(t, "a Tree that is not used", e, api.ErrForm)
+	}
 	var nine []diffs.Step
 	for i := range 8 {
 		nine = append(nine, diffs.Step{What: diffs.SetAttr, Name: fmt.Sprint("n", i)})

@@ -106,6 +106,7 @@ func TestP2_4Set(t *testing.T) {
 		expect(t, "Set", x.Set(y.i, y.size), y.e)
 		expect(t, "List", x.List(), []int64{3, 4, 5, 2})
 	}
+	expect(t, "Set to the ends of the range", all(x.Set(0, 0), x.Set(0, api.MaxHeight), x.Total()), all(0, 0, api.MaxHeight+11))
 	full := tree(t, api.MaxHeight, api.MaxHeight-1, 1)
 	expect(t, "Set beyond the total", full.Set(2, 2), api.ErrOverflow)
 	expect(t, "Set to the greatest total", full.Set(2, 1), api.OK)

@@ -91,6 +91,7 @@ func TestP4_3RankSelect(t *testing.T) {
 	full := list(t, strings.Repeat("1", api.MaxList))
 	expect(t, "Rank", all(full.Rank(api.MaxList)), all(api.MaxList, 0))
 	expect(t, "Select", all(full.Select(api.MaxList-1)), all(api.MaxList-1, 0))
+	expect(t, "Select", all(full.Select(api.MaxList)), all(0, api.ErrNone))
 }
 
 func TestP4_4Next(t *testing.T) {
@@ -186,6 +187,9 @@ func consequences(t *testing.T, f *flags.Flags, want string) {
 		if rank, _ := f.Rank(i); e != api.OK || rank != k || want[i] != '1' {
 			t.Fatalf("Select(%d) %d, its Rank %d", k, i, rank)
 		}
+	}
+	if i, e := f.Select(count); e != api.ErrNone || i != 0 {
+		t.Fatalf("Select(%d) %d, error %d", count, i, e)
 	}
 	for i := 0; i < len(want); i += 37 {
 		for _, v := range []bool{false, true} {

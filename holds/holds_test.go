@@ -93,6 +93,11 @@ func TestP32_1FitsCheckEmpty(t *testing.T) {
 		_, _, g := holds.Trim(c, holds.State{}, -1)
 		expect(t, fmt.Sprint("Fits ", i), all(holds.Fits(c), holds.Check(c, holds.State{}), written(s), e, f, g), all(7, 7, "", 7, 7, 7))
 	}
+	for _, change := range []func(c *api.Config){func(c *api.Config) { c.Arena = 1 }, func(c *api.Config) { c.Arena = api.MaxArena }, func(c *api.Config) { c.Kinds[1].Pool = api.MaxPool }} {
+		c := config()
+		change(&c)
+		expect(t, "Fits at the limits", holds.Fits(c), api.OK)
+	}
 	tree := api.Node{Kind: api.Element, Tag: "a"}
 	row := func(key uint64, kind uint8, n api.Node) holds.Held { return holds.Held{Key: key, Type: kind, Tree: n} }
 	with := func(kind int, l ...holds.Held) holds.State {
@@ -109,6 +114,11 @@ func TestP32_1FitsCheckEmpty(t *testing.T) {
 		big.Children[i].Kind = api.Words
 	}
 	good, _ := commit(t, empty(t), list("1:0 2:1 3:2:2"), 0, 1, 2)
+	full := empty(t)
+	for i := range api.MaxItems {
+		full.Rows = append(full.Rows, row(uint64(i+1), 0, tree))
+	}
+	expect(t, "Check at the limit", holds.Check(config(), full), api.OK)
 	expect(t, "Check", all(holds.Check(config(), good), holds.Check(config(), with(0, row(7, 0, tree)))), all(0, 0))
 	for i, s := range []holds.State{
 		{}, {Pools: make([][]holds.Held, 4)}, with(-1, row(1, 0, tree), row(1, 0, tree)), with(-1, row(0, 0, tree)), with(-1, row(1, 3, tree)), with(-1, row(1, 2, tree)), with(-1, row(1, 0, api.Node{})), with(-1, row(1, 0, big)),

@@ -54,7 +54,7 @@ func TestP17_2BeginCommitRollback(t *testing.T) {
 	for range journals.MaxDepth {
 		expect(t, "Begin", j.Begin(), api.OK)
 	}
-	expect(t, "Begin", all(j.Begin(), j.Depth()), all(api.ErrLimit, journals.MaxDepth))
+	expect(t, "Begin", all(j.Begin(), j.Depth()), all(api.ErrLimit, 64))
 }
 
 func TestP17_2RecordsAnew(t *testing.T) {

@@ -123,6 +123,10 @@ func TestP24_1ValidCheck(t *testing.T) {
 		change(&c)
 		expect(t, "Valid", all(lists.Valid(c), lists.Check(c, lists.List{})), all(api.ErrConfig, api.ErrConfig))
 	}
+	part := rules().Kinds[0]
+	for _, x := range []lists.Rules{{Kinds: []api.Kind{part}, Cap: 1}, {Kinds: []api.Kind{part, part, part, part, part, part, part, part}, Cap: api.MaxNodes}} {
+		expect(t, "Valid at the limits", lists.Valid(x), api.OK)
+	}
 	for _, x := range badLists() {
 		expect(t, "Check", lists.Check(x.c, x.l), x.e)
 		for i, f := range []func() (lists.List, api.Errno){
@@ -216,6 +220,8 @@ func TestP24_4ChangeReset(t *testing.T) {
 	}
 	m, e = lists.Reset(rules(), l, items(3, 1))
 	is(t, "Reset", m, e, "3:10 1:10")
+	m, e = lists.Reset(rules(), l, many(api.MaxItems))
+	expect(t, "Reset to the limit", all(len(m.Entries), e), all(api.MaxItems, 0))
 	m, e = lists.Reset(rules(), l, nil)
 	is(t, "Reset", m, e, "")
 	for _, x := range []struct {
@@ -243,6 +249,8 @@ func TestP24_5Set(t *testing.T) {
 		m, e := lists.Set(rules(), l, x.key, x.size)
 		refused(t, "Set", m, e, x.e)
 	}
+	m, e = lists.Set(rules(), l, 1, 1)
+	is(t, "Set", m, e, "1:1! 2:20 3:10")
 	m, e = lists.Set(rules(), l, 1, api.MaxHeight)
 	is(t, "Set", m, e, "1:2305843009213693952! 2:20 3:10")
 	m, e = lists.Set(rules(), m, 2, api.MaxHeight)

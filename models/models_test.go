@@ -116,6 +116,11 @@ func TestP33_1Check(t *testing.T) {
 	c := config()
 	c.Flaw, c.Least = 6, 10
 	expect(t, "Check", models.Check(c), api.OK)
+	for _, change := range []func(c *api.Config){func(c *api.Config) { c.View = 1 }, func(c *api.Config) { c.View = api.MaxView }, func(c *api.Config) { c.Over = api.MaxOver }, func(c *api.Config) { c.Least, c.Kinds[0].Base = api.MaxHeight, api.MaxHeight }} {
+		c := config()
+		change(&c)
+		expect(t, "Check at the limits", models.Check(c), api.OK)
+	}
 }
 
 func TestP33_1Event(t *testing.T) {
@@ -125,7 +130,7 @@ func TestP33_1Event(t *testing.T) {
 		e api.Errno
 	}{
 		{to(api.ScrollTo, -5), 0}, {to(api.ScrollBy, math.MinInt64), 0}, {reveal(0), 0}, {to(api.Resize, 1), 0}, {to(api.Resize, api.MaxView), 0}, {batch(api.Notice{Kind: 9}), 0}, {batch(), 0}, {to(api.Measured, 0), 0}, {to(api.Trim, 0), 0}, {to(api.Trim, 16), 0},
-		{with(batch(), 5, 1), 0}, {with(to(api.Trim, 0), 5, 1), 0}, {api.Event{}, api.ErrArg}, {api.Event{Kind: 8, To: 1, Key: 1}, api.ErrArg}, {to(api.Reveal, 1), api.ErrForm}, {to(api.Batch, 1), api.ErrForm}, {to(api.Measured, 1), api.ErrForm},
+		{with(batch(), 5, 1), 0}, {api.Event{Kind: api.Batch, Notices: many[:32]}, 0}, {with(to(api.Trim, 0), 5, 1), 0}, {api.Event{}, api.ErrArg}, {api.Event{Kind: 8, To: 1, Key: 1}, api.ErrArg}, {to(api.Reveal, 1), api.ErrForm}, {to(api.Batch, 1), api.ErrForm}, {to(api.Measured, 1), api.ErrForm},
 		{api.Event{Kind: api.ScrollTo, Key: 1}, api.ErrForm}, {api.Event{Kind: api.Trim, Notices: many}, api.ErrForm}, {api.Event{Kind: api.Batch, Notices: many, Key: 1}, api.ErrForm}, {api.Event{Kind: api.Batch, Notices: many, Heights: make([]api.Height, 1)}, api.ErrLimit},
 		{api.Event{Kind: api.Trim, To: 17, Heights: make([]api.Height, 257)}, api.ErrLimit}, {with(to(api.Resize, 0), 0, 0), api.ErrKey}, {with(to(api.Resize, 0), 1, 0), api.ErrHeight}, {with(to(api.Trim, -1), 1, 1, 1, 1), api.ErrTwice},
 		{to(api.Resize, 0), api.ErrRange}, {to(api.Resize, api.MaxView+1), api.ErrRange}, {to(api.Trim, 17), api.ErrRange}, {to(api.Trim, -1), api.ErrRange},

@@ -186,6 +186,12 @@ func TestP25_6Parse(t *testing.T) {
 		got, line, e := notices.Parse(x.s)
 		expect(t, fmt.Sprintf("Parse of %.30q", x.s), all(len(got), line, e), all(0, x.line, x.e))
 	}
+	long := strings.Repeat("1 0 - x\n", api.MaxItems)
+	for _, s := range []string{many, "reset 1024\n" + long, "insert 0 1024\n" + long} {
+		got, line, e := notices.Parse(s)
+		text, f := notices.Text(got)
+		expect(t, "Parse at the limits", all(line, e, f, text == s), all(0, 0, 0, true))
+	}
 	got, line, e := notices.Parse("")
 	expect(t, "Parse", all(len(got), line, e), all(0, 0, 0))
 }

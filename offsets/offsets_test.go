@@ -135,6 +135,8 @@ func TestP10_6RowsSlide(t *testing.T) {
 	}
 	expect(t, "Slide", all(offsets.Slide([]complex128{3}, offsets.MaxExact-4)), all([]complex128{offsets.MaxExact - 1}, 0))
 	expect(t, "Slide", all(offsets.Slide(nil, least)), all([]complex128{}, 0))
+	many, e := offsets.Slide(make([]complex128, api.MaxList), 1)
+	expect(t, "Slide of as many rows as there may be", all(len(many), e, offsets.MaxExact), all(api.MaxList, 0, 9007199254740992))
 	expect(t, "Slide", all(offsets.Slide(make([]complex128, api.MaxList+1), -1)), all([]complex128{}, api.ErrLimit))
 }
 

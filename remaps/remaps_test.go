@@ -77,6 +77,14 @@ func TestP9_2Makers(t *testing.T) {
 	expect(t, "Inserted", all(remaps.Inserted(1, 0, api.MaxList)), all(none, api.ErrLimit))
 	expect(t, "Inserted", all(remaps.Inserted(1, 0, math.MaxInt)), all(none, api.ErrLimit))
 	expect(t, "Inserted", all(remaps.Inserted(1, -1, math.MaxInt)), all(none, api.ErrRange))
+	for _, n := range []int{0, api.MaxList} {
+		same, e := remaps.Same(n)
+		expect(t, "Same at the limits", all(len(same.From), same.Old, e), all(n, n, 0))
+		in, e := remaps.Inserted(n, n, 0)
+		out, f := remaps.Removed(n, 0, n)
+		moved, g := remaps.Moved(n, 0, n, 0)
+		expect(t, "maps at the limits", all(len(in.From), e, len(out.From), f, len(moved.From), g, remaps.Check(moved)), all(n, 0, 0, 0, n, 0, 0))
+	}
 	m, e := remaps.Inserted(1, 0, api.MaxList-1)
 	expect(t, "Inserted to the limit", all(len(m.From), e), all(api.MaxList, 0))
 }
@@ -99,6 +107,7 @@ func TestP9_5AtGone(t *testing.T) {
 	m := of(4, 0, 3)
 	expect(t, "At", all(remaps.At(m, 3)), all(1, 0))
 	expect(t, "At", all(remaps.At(m, 1)), all(0, api.ErrNone))
+	expect(t, "At", all(remaps.At(m, 0)), all(0, 0))
 	for _, i := range []int{-1, 4, math.MinInt, math.MaxInt} {
 		expect(t, "At", all(remaps.At(m, i)), all(0, api.ErrRange))
 	}

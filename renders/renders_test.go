@@ -56,6 +56,11 @@ func TestP27_1SizedTops(t *testing.T) {
 	expect(t, "Tops", all(renders.Tops(lists.List{})), all("[0]", 0))
 	expect(t, "Sized", all(renders.Sized(example()), renders.Sized(lists.List{}), renders.Sized(list(api.MaxHeight, api.MaxHeight))), all(0, 0, 0))
 	expect(t, "Sized", all(renders.Sized(list(api.MaxHeight+1)), renders.Sized(list(math.MinInt64)), renders.Sized(list(0))), all(api.ErrHeight, api.ErrHeight, api.ErrHeight))
+	full := lists.List{Entries: make([]lists.Entry, api.MaxItems)}
+	for i := range full.Entries {
+		full.Entries[i].Size = 1
+	}
+	expect(t, "Sized at the limit", renders.Sized(full), api.OK)
 	for e, l := range badLists() {
 		expect(t, "Sized", renders.Sized(l), e)
 		expect(t, "Tops", all(renders.Tops(l)), all("[]", e))

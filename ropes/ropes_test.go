@@ -136,6 +136,10 @@ func TestP5_4Set(t *testing.T) {
 		got, e := r.Set(x.i, x.size)
 		refused(t, "Set", got, e, x.e)
 	}
+	least, e := r.Set(0, 0)
+	is(t, "Set to the least size", least, e, 0, 0, 5, 2)
+	most, e := r.Set(0, api.MaxHeight)
+	is(t, "Set to the greatest size", most, e, api.MaxHeight, 0, 5, 2)
 	big := rope(t, api.MaxHeight, api.MaxHeight-1, 1)
 	got, e := big.Set(2, 2)
 	refused(t, "Set", got, e, api.ErrOverflow)

@@ -101,6 +101,9 @@ func TestP31_1ValidCheck(t *testing.T) {
 		r, e = settles.Settle(x.f, x.l, x.a, x.table)
 		expect(t, "Settle", all(r, e), all(settles.Result{}, x.e))
 	}
+	greatest := frame(1, 0)
+	greatest.Least = api.MaxHeight
+	expect(t, "Valid", settles.Valid(greatest), api.OK)
 	f := frame(0, 0)
 	f.Rules.Cap = 0
 	expect(t, "Valid", all(settles.Valid(f), settles.Valid(frame(0, 0))), all(api.ErrConfig, api.ErrArg))

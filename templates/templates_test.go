@@ -106,12 +106,16 @@ func bad() []api.Part {
 func good() []api.Part {
 	key := element("a")
 	key.Key = "k9"
-	return []api.Part{element("a"), example(), key, chain(6, words), chain(6, each("b")), big(64), element("a", words, number, field, each("b"), element("c", each("d")))}
+	eight := element("a", many(16, words)...)
+	for i := range 8 {
+		eight.Slots = append(eight.Slots, slot(string(rune('a'+i)), 0, ""))
+	}
+	return []api.Part{element("a"), example(), key, chain(6, words), chain(6, each("b")), big(64), element("a", words, number, field, each("b"), element("c", each("d"))), eight}
 }
 
 func TestP14_1CheckCount(t *testing.T) {
 	for i, p := range good() {
-		expect(t, fmt.Sprint("good ", i), all(templates.Check(p), templates.Count(p)), all(0, []int{1, 3, 1, 6, 6, 64, 7}[i]))
+		expect(t, fmt.Sprint("good ", i), all(templates.Check(p), templates.Count(p)), all(0, []int{1, 3, 1, 6, 6, 64, 7, 17}[i]))
 	}
 	for i, p := range bad() {
 		expect(t, fmt.Sprint("bad ", i), all(templates.Check(p), templates.Count(p)), all(api.ErrTree, 0))
@@ -184,7 +188,7 @@ func TestP14_5Render(t *testing.T) {
 		most int
 		e    api.Errno
 	}{
-		{example(), item(), 5, api.ErrTree}, {example(), item(), 6, 0}, {example(), item(), 0, api.ErrArg}, {api.Part{}, item(), 65, api.ErrArg}, {example(), item(), -1, api.ErrArg},
+		{element("a"), item(), 1, 0}, {example(), item(), 5, api.ErrTree}, {example(), item(), 6, 0}, {example(), item(), 0, api.ErrArg}, {api.Part{}, item(), 65, api.ErrArg}, {example(), item(), -1, api.ErrArg},
 		{example(), api.Item{}, 64, api.ErrItem}, {api.Part{}, api.Item{}, 64, api.ErrTree}, {example(), twice, 64, api.ErrTree}, {keyed, item(), 64, api.ErrTree},
 		{chain(6, each("b")), item(), 64, api.ErrTree}, {chain(6, each("b")), api.Item{Key: 1}, 64, 0},
 		{element("a", append(many(15, words), each("b"))...), item(), 64, api.ErrTree}, {big(64), item(), 64, 0}, {big(64), item(), 63, api.ErrTree},
