@@ -156,6 +156,11 @@ func TestP41_4Broken(t *testing.T) {
 	expect(t, "Broken", all(audits.Broken(flawed(config(), 3, 45), []api.Event{insert(0, 1, 2, 3, 4, 5), reset()})), all(1, []audits.Rule{6}, 0))
 	expect(t, "Broken", all(audits.Broken(rich(4), []api.Event{to(api.ScrollTo, 3), insert(0, 100, 1, 101, 2, 3, 4), to(api.ScrollTo, 14)})), all(2, []audits.Rule{9}, 0))
 	expect(t, "Broken", all(audits.Broken(rich(0), []api.Event{insert(0, 100, 1, 101, 2, 3, 4), to(api.ScrollTo, 14)})), all(0, "[]", api.ErrNone))
+	five := rich(5)
+	five.View, five.Over, five.Arena = 20, 0, 8
+	up := to(api.Resize, 60)
+	up.Heights = []api.Height{{Key: 3, Size: 30}, {Key: 4, Size: 30}}
+	expect(t, "Broken", all(audits.Broken(five, []api.Event{insert(0, 1, 2, 3, 4, 5, 6), reveal(5), up})), all(2, []audits.Rule{2, 3}, 0))
 	expect(t, "Broken", all(audits.Broken(api.Config{}, nil)), all(0, "[]", api.ErrConfig))
 }
 

@@ -100,6 +100,7 @@ func TestP45_2Parse(t *testing.T) {
 	} {
 		expect(t, fmt.Sprintf("Parse of %.40q", line), all(consoles.Parse(line)), all(consoles.Call{}, api.ErrForm))
 	}
+	expect(t, "limits", all(consoles.MaxLine, consoles.MaxNumbers), all(1048576, 40))
 	expect(t, "Parse", all(consoles.Parse(strings.Repeat("\n", consoles.MaxLine+1))), all(consoles.Call{}, api.ErrLimit))
 }
 
@@ -107,13 +108,13 @@ func TestP45_3Changes(t *testing.T) {
 	c := console(t)
 	talk(t, c, []say{
 		{"view 30", "ok"}, {"over 2", "ok"}, {"least 2", "ok"}, {"arena 500", "ok"}, {"flaw 6", "ok"}, {"base 1 7", "ok"}, {"pool 0 3", "ok"}, {"text", "config 30 2 2 8 500 6|kind 10 3 plain|element row -|field|end|kind 7 1 sticky|element head -|number|end"},
-		{"view 0", "error 7"}, {"over 17", "error 7"}, {"least 8", "error 7"}, {"arena 65537", "error 7"}, {"flaw 7", "error 7"}, {"flaw 256", "error 4"}, {"base 2 10", "error 4"}, {"base 0 1", "error 7"}, {"pool 1 17", "error 7"}, {"pool 2 1", "error 4"}, {"foo", "error 5"}, {"heights", "error 11"}, {"heights 1 2", "error 11"},
+		{"view 0", "error 7"}, {"over 17", "error 7"}, {"least 8", "error 7"}, {"arena 65537", "error 7"}, {"flaw 7", "error 7"}, {"flaw 256", "error 4"}, {"flaw 255", "error 7"}, {"base 2 10", "error 4"}, {"base 0 1", "error 7"}, {"pool 1 17", "error 7"}, {"pool 2 1", "error 4"}, {"foo", "error 5"}, {"heights", "error 11"}, {"heights 1 2", "error 11"},
 		{"new", "ok"}, {"text", beginning}, {"insert 0 0 1 2 3", "0 0"}, {"to 5", "1 0"}, {"by -2", "2 0"}, {"resize 40", "3 0"}, {"resize -4", "4 4"}, {"trim 3", "5 0"}, {"trim 17", "6 4"}, {"reveal 2", "7 0"}, {"reveal 9", "8 11"}, {"remove 0 1", "9 0"}, {"move 0 1 1", "10 0"}, {"move 0 1 -1", "11 4"},
 		{"change 1 0 2 a b", "12 0"}, {"change 1 0 2", "13 0"}, {"reset 1 100 101", "14 0"}, {"reset 0", "15 0"}, {"insert 0 1 7", "16 0"}, {"measured 7 9", "17 0"}, {"heights 7 8", "17 0"}, {"heights 6 8", "17 11"}, {"heights", "17 0"},
 		{"text", beginning + "|batch 4|insert 0 3|1 0 - item 1|2 0 - item 2|3 0 - item 3|scrollto 5|scrollby -2|resize 40|resize -4|trim 3|trim 17|reveal 2|reveal 9|batch 1|remove 0 1|batch 1|move 0 1 1|batch 1|move 0 1 -1|batch 2|change 1 1|2 0 - a b|batch 2|change 1 1|2 0 - |batch 3|reset 2|100 1 - item 100|101 1 - item 101|batch 1|reset 0|batch 2|insert 0 1|7 1 - item 7|measured"},
-		{"insert 0 8 1", "error 6"}, {"insert 0 256 1", "error 4"}, {"reset 256", "error 4"}, {"change 0 256 1", "error 4"}, {"insert 0 0 0", "error 6"}, {"measured 0 1", "error 9"}, {"measured 1 0", "error 12"}, {"measured 1 1 1 2", "error 8"}, {"heights 1 0", "error 12"}, {"change 0 0 1 " + strings.Repeat("x", 65), "error 6"},
+		{"insert 0 8 1", "error 6"}, {"insert 0 256 1", "error 4"}, {"insert 0 255 1", "error 6"}, {"reset 256", "error 4"}, {"change 0 256 1", "error 4"}, {"insert 0 0 0", "error 6"}, {"measured 0 1", "error 9"}, {"measured 1 0", "error 12"}, {"measured 1 1 1 2", "error 8"}, {"heights 1 0", "error 12"}, {"change 0 0 1 " + strings.Repeat("x", 65), "error 6"},
 		{"insert 0 2 5", "18 6"}, {"cut 20", "error 4"}, {"cut 2", "ok"}, {"drop 2", "error 4"}, {"drop 0", "ok"}, {"text", beginning + "|scrollto 5"}, {"cut 0", "ok"}, {"text", beginning}, {"drop 0", "error 4"},
-		{"mutant 0", "error 1"}, {"mutant 7", "error 1"}, {"mutant 256", "error 4"}, {"load ", "error 5"}, {"load x", "error 5"}, {"load config 25 0 1 64 100 0", "error 7"}, {"load " + beginning + "|heights 1|1 0", "error 5"}, {"load " + beginning + "|trim 1|heights 1|1 0", "error 12"},
+		{"mutant 0", "error 1"}, {"mutant 7", "error 1"}, {"mutant 256", "error 4"}, {"mutant 255", "error 1"}, {"load ", "error 5"}, {"load x", "error 5"}, {"load config 25 0 1 64 100 0", "error 7"}, {"load " + beginning + "|heights 1|1 0", "error 5"}, {"load " + beginning + "|trim 1|heights 1|1 0", "error 12"},
 		{"load " + beginning + "|trim 1", "ok"}, {"answers", "0"}, {"mutant 4", "ok"}, {"caught", "4"},
 	}...)
 	s, _ := mutants.Script(4)

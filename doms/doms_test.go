@@ -247,6 +247,34 @@ func TestP16_8CopySame(t *testing.T) {
 		change(y)
 		expect(t, "Same", doms.Same(x, y), true)
 	}
+	changes := []func(d *doms.Dom){
+		func(d *doms.Dom) { d.SetAttr(a, "n", "2") }, func(d *doms.Dom) { d.SetAttr(a, "n", "3") }, func(d *doms.Dom) { d.SetAttr(b, "n", "2") }, func(d *doms.Dom) { d.Place(a, 1, 2, true) }, func(d *doms.Dom) { d.Place(a, 2, 2, true) }, func(d *doms.Dom) { d.Place(a, 1, 3, true) },
+		func(d *doms.Dom) { d.Place(a, 1, 2, false) }, func(d *doms.Dom) { d.Words("v") }, func(d *doms.Dom) { d.Words("w") }, func(d *doms.Dom) { d.Element("v") }, func(d *doms.Dom) { d.Element("w") },
+	}
+	for i, one := range changes {
+		for k, other := range changes {
+			x, y := d.Copy(), d.Copy()
+			one(x)
+			other(y)
+			expect(t, fmt.Sprint("Same with other nodes ", i, k), doms.Same(x, y), i == k)
+		}
+	}
+	ab, ba := doms.New(), doms.New()
+	for _, d := range []*doms.Dom{ab, ba} {
+		d.Element("a")
+		d.Element("b")
+		d.Element("c")
+	}
+	ab.Insert(a, b, zero)
+	ab.Insert(a, c, zero)
+	ba.Insert(a, b, zero)
+	ba.Insert(a, c, b)
+	cd := ab.Copy()
+	cd.Remove(c)
+	cd.Insert(b, c, zero)
+	ab.Remove(c)
+	ab.Insert(a, c, zero)
+	expect(t, "Same with other children", all(doms.Same(ab, ba), doms.Same(ab, cd)), all(false, false))
 	var none *doms.Dom
 	expect(t, "Same", all(doms.Same(none, nil), doms.Same(nil, d), doms.Same(d, nil), doms.Same(nil, doms.New()), doms.Same(doms.New(), &doms.Dom{})), all(true, false, false, false, true))
 }
@@ -263,7 +291,14 @@ func TestP16_9Consequences(t *testing.T) {
 	d.Record(true)
 	states := []*doms.Dom{d.Copy()}
 	for range 4000 {
+		var there []api.Handle
+		for _, root := range d.Roots() {
+			there = append(there, below(d, root)...)
+		}
 		any := func() api.Handle {
+			if next(8) > 0 {
+				return there[next(len(there))]
+			}
 			c := d.Counters()
 			return h(uint32(next(c.Created-c.Freed+4)), uint32(1+next(3)))
 		}
@@ -291,7 +326,7 @@ func TestP16_9Consequences(t *testing.T) {
 		case 8:
 			e = d.Place(x, int64(next(9)), 1, next(2) == 0)
 		default:
-			if next(4) > 0 {
+			if next(4) > 0 && x != (h(0, 1)) {
 				e = d.Free(x)
 			} else if next(12) == 0 {
 				to := next(steps + 1)
@@ -319,6 +354,16 @@ func TestP16_9Consequences(t *testing.T) {
 			t.Fatal("not the same behind Undo", to)
 		}
 	}
+}
+
+// below returns a node, and all nodes below it.
+func below(d *doms.Dom, x api.Handle) []api.Handle {
+	l := []api.Handle{x}
+	v, _ := d.Look(x)
+	for _, child := range v.Children {
+		l = append(l, below(d, child)...)
+	}
+	return l
 }
 
 // agree fails unless parents and children agree, and all nodes are below a root.

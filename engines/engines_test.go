@@ -180,7 +180,7 @@ func TestP38_2Flaws(t *testing.T) {
 		{2, []api.Event{batch(insert(0, 100, 1, 2, 3, 4, 5)), to(api.ScrollTo, 16), with(batch(api.Notice{Kind: api.Change, Items: items(100)}), 100, 20)}, "16 [100 1 2] [] 1 1 0 0 7"},
 		{0, []api.Event{batch(insert(0, 1, 2, 3)), batch(api.Notice{Kind: api.Reset})}, "0 [] [1 2] 0 0 0 0 5"}, {3, []api.Event{batch(insert(0, 1, 2, 3, 4, 5)), to(api.Resize, 50), batch(api.Notice{Kind: api.Reset})}, "0 [] [1 2 3 4 5] 0 0 0 0 11"},
 		{0, []api.Event{batch(insert(0, 1, 2, 3, 4)), batch(insert(0, 5))}, "10 [1 2] [] 0 0 0 0 5"}, {6, []api.Event{batch(insert(0, 1, 2, 3, 4)), batch(insert(0, 5))}, "0 [5 1] [] 1 1 0 0 5"},
-		{6, []api.Event{batch(insert(0, 1, 2, 3, 4)), reveal(4), batch(remove(1, 3))}, "0 [1] [3] 0 1 0 0 5"}, {6, []api.Event{batch(insert(0, 1)), batch(remove(0, 1)), batch(insert(0, 2))}, "0 [2] [] 1 1 0 0 3"},
+		{6, []api.Event{batch(insert(0, 1, 2, 3, 4)), reveal(4), batch(remove(1, 3))}, "0 [1] [3] 0 1 0 0 5"}, {6, []api.Event{batch(insert(0, 1, 2, 3, 4, 5, 6, 7, 8, 9)), reveal(9), batch(remove(6, 3))}, "40 [5 6] [] 1 2 0 0 5"}, {6, []api.Event{batch(insert(0, 1)), batch(remove(0, 1)), batch(insert(0, 2))}, "0 [2] [] 1 1 0 0 3"},
 	} {
 		g := engine(t, flawed(c, x.flaw))
 		for _, e := range x.l {

@@ -72,6 +72,8 @@ func TestP36_2Of(t *testing.T) {
 		p, e := plans.Of(rows(x.old), rows(x.now), x.pools, x.bounds)
 		expect(t, "Of "+x.old+" "+x.now, all(p, e, cap(p.Leaves) == len(p.Leaves), cap(p.Steps) == len(p.Steps)), all(x.want, 0, true, true))
 	}
+	eight, e := plans.Of(rows("a"), rows("b"), make([]int, 8), make([]int, 8))
+	expect(t, "Of with as many types as there may be", all(eight.Drops(), eight.Makes(), e), all(1, 1, 0))
 	pools := []int{0, 0}
 	plans.Of(rows("a"), rows("b"), pools, []int{1, 0})
 	expect(t, "the argument", pools, []int{0, 0})

@@ -83,6 +83,10 @@ func TestP44_1Of(t *testing.T) {
 func TestP44_2Text(t *testing.T) {
 	expect(t, "Text", all(reports.Text(full())), all(lined(fullText), 0))
 	expect(t, "Text", all(reports.Text(reports.Report{Finding: audits.Finding{At: 4}})), all(lined("answers; view 0; offset 0; total 0; items 0 0; cost 0 0 0 0 0 0 0 0 0 0 0; rules; same"), 0))
+	az := reports.Report{Finding: audits.Finding{What: "az"}}
+	text, _ := reports.Text(az)
+	got, _, e := reports.Parse(text)
+	expect(t, "Text", all(got.Finding, e), all(az.Finding, 0))
 	long := reports.Report{Lines: make([]snapshots.Line, 80000)}
 	expect(t, "Text", all(reports.Text(long)), all("", api.ErrLimit))
 	for _, what := range []string{"A", "a b", "a\n", "é", "-", "a1"} {

@@ -232,7 +232,9 @@ func TestP35_4AgainstNotices(t *testing.T) {
 	for i := range api.MaxItems + 1 {
 		many = append(many, item(uint64(1000+i), 0))
 	}
-	full := store(t, insert(0, many[1:]...))
+	full := store(t, reset(many[1:]...))
+	expect(t, "as many entries as there may be", full.Len(), api.MaxItems)
+	full = store(t, insert(0, many[1:]...))
 	expect(t, "limits", all(full.Apply(insert(0, item(1, 0))), full.Apply(reset(many...)), full.Apply(reset(many[:3]...)), full.Len()), all(api.ErrLimit, api.ErrLimit, 0, 3))
 }
 
