@@ -161,6 +161,8 @@ func TestP41_4Broken(t *testing.T) {
 	up := to(api.Resize, 60)
 	up.Heights = []api.Height{{Key: 3, Size: 30}, {Key: 4, Size: 30}}
 	expect(t, "Broken", all(audits.Broken(five, []api.Event{insert(0, 1, 2, 3, 4, 5, 6), reveal(5), up})), all(2, []audits.Rule{2, 3}, 0))
+	up.Heights = []api.Height{{Key: 3, Size: 2}, {Key: 4, Size: 2}}
+	expect(t, "Broken: Attached is not looked at", all(audits.Broken(five, []api.Event{insert(0, 1, 2, 3, 4, 5, 6), reveal(5), up})), all(2, []audits.Rule{3, 8}, 0))
 	expect(t, "Broken", all(audits.Broken(api.Config{}, nil)), all(0, "[]", api.ErrConfig))
 }
 
