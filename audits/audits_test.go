@@ -80,6 +80,11 @@ func model(c api.Config, l ...api.Event) models.Model {
 	return m
 }
 
+func TestP41_1Names(t *testing.T) {
+	names := []audits.Rule{audits.Known, audits.Attached, audits.Tops, audits.Trees, audits.Roots, audits.Pools, audits.Bound, audits.Clamped, audits.Head}
+	expect(t, "the rules", names, []audits.Rule{1, 2, 3, 4, 5, 6, 7, 8, 9})
+}
+
 func TestP41_1Rules(t *testing.T) {
 	expect(t, "Rules", all(audits.Rules(engine(t, config()))), all("[]", 0))
 	events := []api.Event{insert(0, 100, 1, 101, 2, 3, 4, 5), to(api.ScrollTo, 8), to(api.ScrollTo, 14)}
@@ -88,19 +93,19 @@ func TestP41_1Rules(t *testing.T) {
 		want  []audits.Rule
 	}{
 		{func(g *engines.Engine) {}, nil},
-		{func(g *engines.Engine) { g.Dom().Place(g.Rows()[1].Root, 7, 10, false) }, []audits.Rule{3}}, {func(g *engines.Engine) { g.Dom().Place(g.Rows()[1].Root, 6, 11, false) }, []audits.Rule{3}},
-		{func(g *engines.Engine) { g.Dom().Place(g.Rows()[1].Root, 6, 10, true) }, []audits.Rule{9}}, {func(g *engines.Engine) { g.Dom().Place(g.Rows()[0].Root, 11, 6, true) }, []audits.Rule{9}}, {func(g *engines.Engine) { g.Dom().Place(g.Rows()[0].Root, 0, 6, false) }, []audits.Rule{9}},
-		{func(g *engines.Engine) { g.Dom().SetAttr(g.Rows()[1].Root, "a", "") }, []audits.Rule{4}}, {func(g *engines.Engine) { g.Dom().Element("other") }, []audits.Rule{5}}, {func(g *engines.Engine) { g.Dom().Remove(g.Rows()[1].Root) }, []audits.Rule{5}},
-		{func(g *engines.Engine) { g.Dom().Move(g.Rows()[1].Root, api.Handle{}) }, []audits.Rule{5}},
+		{func(g *engines.Engine) { g.Dom().Place(g.Rows()[1].Root, 7, 10, false) }, []audits.Rule{audits.Tops}}, {func(g *engines.Engine) { g.Dom().Place(g.Rows()[1].Root, 6, 11, false) }, []audits.Rule{audits.Tops}},
+		{func(g *engines.Engine) { g.Dom().Place(g.Rows()[1].Root, 6, 10, true) }, []audits.Rule{audits.Head}}, {func(g *engines.Engine) { g.Dom().Place(g.Rows()[0].Root, 11, 6, true) }, []audits.Rule{audits.Head}}, {func(g *engines.Engine) { g.Dom().Place(g.Rows()[0].Root, 0, 6, false) }, []audits.Rule{audits.Head}},
+		{func(g *engines.Engine) { g.Dom().SetAttr(g.Rows()[1].Root, "a", "") }, []audits.Rule{audits.Trees}}, {func(g *engines.Engine) { g.Dom().Element("other") }, []audits.Rule{audits.Roots}}, {func(g *engines.Engine) { g.Dom().Remove(g.Rows()[1].Root) }, []audits.Rule{audits.Roots}},
+		{func(g *engines.Engine) { g.Dom().Move(g.Rows()[1].Root, api.Handle{}) }, []audits.Rule{audits.Roots}},
 		{func(g *engines.Engine) {
 			g.Dom().Remove(g.Rows()[1].Root)
 			g.Dom().Free(g.Rows()[1].Root)
-		}, []audits.Rule{3, 4, 5, 9}},
+		}, []audits.Rule{audits.Tops, audits.Trees, audits.Roots, audits.Head}},
 		{func(g *engines.Engine) {
 			for range 60 {
 				g.Dom().Element("other")
 			}
-		}, []audits.Rule{5, 7}},
+		}, []audits.Rule{audits.Roots, audits.Bound}},
 	} {
 		g := engine(t, rich(0), events...)
 		x.spoil(g)
@@ -153,16 +158,16 @@ func TestP41_3Compare(t *testing.T) {
 }
 
 func TestP41_4Broken(t *testing.T) {
-	expect(t, "Broken", all(audits.Broken(flawed(config(), 3, 45), []api.Event{insert(0, 1, 2, 3, 4, 5), reset()})), all(1, []audits.Rule{6}, 0))
-	expect(t, "Broken", all(audits.Broken(rich(4), []api.Event{to(api.ScrollTo, 3), insert(0, 100, 1, 101, 2, 3, 4), to(api.ScrollTo, 14)})), all(2, []audits.Rule{9}, 0))
+	expect(t, "Broken", all(audits.Broken(flawed(config(), 3, 45), []api.Event{insert(0, 1, 2, 3, 4, 5), reset()})), all(1, []audits.Rule{audits.Pools}, 0))
+	expect(t, "Broken", all(audits.Broken(rich(4), []api.Event{to(api.ScrollTo, 3), insert(0, 100, 1, 101, 2, 3, 4), to(api.ScrollTo, 14)})), all(2, []audits.Rule{audits.Head}, 0))
 	expect(t, "Broken", all(audits.Broken(rich(0), []api.Event{insert(0, 100, 1, 101, 2, 3, 4), to(api.ScrollTo, 14)})), all(0, "[]", api.ErrNone))
 	five := rich(5)
 	five.View, five.Over, five.Arena = 20, 0, 8
 	up := to(api.Resize, 60)
 	up.Heights = []api.Height{{Key: 3, Size: 30}, {Key: 4, Size: 30}}
-	expect(t, "Broken", all(audits.Broken(five, []api.Event{insert(0, 1, 2, 3, 4, 5, 6), reveal(5), up})), all(2, []audits.Rule{2, 3}, 0))
+	expect(t, "Broken", all(audits.Broken(five, []api.Event{insert(0, 1, 2, 3, 4, 5, 6), reveal(5), up})), all(2, []audits.Rule{audits.Attached, audits.Tops}, 0))
 	up.Heights = []api.Height{{Key: 3, Size: 2}, {Key: 4, Size: 2}}
-	expect(t, "Broken: Attached is not looked at", all(audits.Broken(five, []api.Event{insert(0, 1, 2, 3, 4, 5, 6), reveal(5), up})), all(2, []audits.Rule{3, 8}, 0))
+	expect(t, "Broken: Attached is not looked at", all(audits.Broken(five, []api.Event{insert(0, 1, 2, 3, 4, 5, 6), reveal(5), up})), all(2, []audits.Rule{audits.Tops, audits.Clamped}, 0))
 	expect(t, "Broken", all(audits.Broken(api.Config{}, nil)), all(0, "[]", api.ErrConfig))
 }
 
@@ -224,5 +229,5 @@ func TestP41_5Consequences(t *testing.T) {
 		}
 	}
 	delete(broken, 5) // of which nothing is said
-	expect(t, "the rules that are broken", broken, map[uint8]map[audits.Rule]bool{0: {}, 1: {4: true}, 2: {}, 3: {6: true}, 4: {9: true}, 6: {}})
+	expect(t, "the rules that are broken", broken, map[uint8]map[audits.Rule]bool{0: {}, 1: {audits.Trees: true}, 2: {}, 3: {audits.Pools: true}, 4: {audits.Head: true}, 6: {}})
 }

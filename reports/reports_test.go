@@ -54,7 +54,7 @@ func full() reports.Report {
 	return reports.Report{
 		Answers: []api.Errno{0, 18, -3, math.MaxInt}, View: math.MinInt64, Offset: math.MaxInt64, Total: -1, Items: 5, Known: math.MinInt,
 		Cost:  costs.Cost{Created: 1, Freed: -2, Inserted: 3, Removed: 4, Moved: 5, Wrote: 6, Placed: 7, Rounds: 8, Rebound: 9, Made: 10, Dropped: 11},
-		Rules: []audits.Rule{3, 255}, Finding: audits.Finding{At: -7, What: "slice"},
+		Rules: []audits.Rule{audits.Tops, 255}, Finding: audits.Finding{At: -7, What: "slice"},
 		Lines: []snapshots.Line{{Key: math.MaxUint64, Type: 255, Top: -4, Size: -5, Pinned: true, Nodes: -6}, {}},
 	}
 }
@@ -75,7 +75,7 @@ func TestP44_1Of(t *testing.T) {
 	flawed, _ := mutants.Script(3)
 	flawed.Config.Flaw = 3
 	r, _ = reports.Of(flawed)
-	expect(t, "Of", all(r.Rules, r.Finding), all([]audits.Rule{6}, audits.Finding{At: 1, What: "counts"}))
+	expect(t, "Of", all(r.Rules, r.Finding), all([]audits.Rule{audits.Pools}, audits.Finding{At: 1, What: "counts"}))
 	r, e = reports.Of(scripts.Script{})
 	expect(t, "Of", all(r, e), all(reports.Report{}, api.ErrConfig))
 }
@@ -138,7 +138,7 @@ func TestP44_4SameGoodRefused(t *testing.T) {
 	}
 	empty := reports.Report{Answers: []api.Errno{}, Rules: []audits.Rule{}, Lines: []snapshots.Line{}, Finding: audits.Finding{At: 3}}
 	expect(t, "Same", all(reports.Same(reports.Report{}, empty), reports.Good(empty), reports.Refused(empty)), all(true, true, 0))
-	expect(t, "Good", all(reports.Good(full()), reports.Good(reports.Report{Rules: []audits.Rule{1}}), reports.Good(reports.Report{Finding: audits.Finding{What: "a"}}), reports.Refused(full())), all(false, false, false, 3))
+	expect(t, "Good", all(reports.Good(full()), reports.Good(reports.Report{Rules: []audits.Rule{audits.Known}}), reports.Good(reports.Report{Finding: audits.Finding{What: "a"}}), reports.Refused(full())), all(false, false, false, 3))
 }
 
 func TestP44_5Consequences(t *testing.T) {
