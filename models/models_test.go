@@ -145,6 +145,31 @@ func TestP33_1Event(t *testing.T) {
 	expect(t, "Event below Least", models.Event(c, with(batch(), 1, 1)), api.ErrHeight)
 }
 
+// TestP33_1Fields gives events of every kind fields, those that they use and the others.
+func TestP33_1Fields(t *testing.T) {
+	uses := []struct{ to, key, notices bool }{{}, {to: true}, {to: true}, {key: true}, {to: true}, {notices: true}, {}, {to: true}}
+	refused := map[bool]api.Errno{true: api.OK, false: api.ErrForm}
+	for kind := api.ScrollTo; kind <= api.Trim; kind++ {
+		u := uses[kind]
+		x := to(kind, 1)
+		expect(t, fmt.Sprint("To of ", kind), models.Event(config(), x), refused[u.to])
+		x.To = 0
+		if u.to {
+			x.To = 2
+		}
+		expect(t, fmt.Sprint("Heights of ", kind), models.Event(config(), with(x, 5, 1)), api.OK)
+		x.Key = 1
+		expect(t, fmt.Sprint("Key of ", kind), models.Event(config(), x), refused[u.key])
+		x.Key, x.Notices = 0, make([]api.Notice, 1)
+		expect(t, fmt.Sprint("Notices of ", kind), models.Event(config(), x), refused[u.notices])
+	}
+	for _, kind := range []uint8{api.ScrollTo, api.ScrollBy} {
+		for _, n := range []int64{math.MinInt64, -1, 0, math.MaxInt64} {
+			expect(t, fmt.Sprint("To ", n), models.Event(config(), to(kind, n)), api.OK)
+		}
+	}
+}
+
 func TestP33_2New(t *testing.T) {
 	c := config()
 	m := model(t, c)
